@@ -1,0 +1,1 @@
+"""A crossword setter's lattices, and words put into them."""

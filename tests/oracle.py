@@ -1,0 +1,124 @@
+"""What DOC.md says of judge and lights, worked out from its words in another way than the program's."""
+
+import re
+
+CELL = re.compile("[#.A-Z]*")
+
+
+def bytes_of(*rows):
+    return [ord(sign) for row in rows for sign in row + "\n"]
+
+
+def goes_on(text):
+    """Whether some lattice's text begins with this one: tried for every width."""
+    *whole, rest = text.split("\n")
+    if not all(CELL.fullmatch(row) for row in whole + [rest]):
+        return False
+    if len(whole) > 9 or (len(whole) == 9 and rest):
+        return False
+    return any(all(len(row) == width for row in whole) and len(rest) <= width for width in range(2, 10))
+
+
+def is_lattice(text):
+    return any(re.fullmatch("([#.A-Z]{%d}\n){2,9}" % width, text) for width in range(2, 10))
+
+
+def first_fault(t):
+    """None if there is none, else how much of the text can still go on, less the byte that can't."""
+    text = "".join(chr(byte) for byte in t)
+    if is_lattice(text):
+        return None
+    return max(size for size in range(len(text) + 1) if goes_on(text[:size]))
+
+
+def lights(rows):
+    """Each as (number, way, cells); the runs are found by pattern in the rows and in the columns."""
+    runs = []
+    for r, row in enumerate(rows):
+        for found in re.finditer("[^#]{2,}", row):
+            runs.append(((r, found.start()), 0, [(r, c) for c in range(*found.span())]))
+    for c, column in enumerate("".join(column) for column in zip(*rows)):
+        for found in re.finditer("[^#]{2,}", column):
+            runs.append(((found.start(), c), 1, [(r, c) for r in range(*found.span())]))
+    starts = sorted({start for start, way, cells in runs})
+    return [(starts.index(start) + 1, way, cells) for start, way, cells in sorted(runs)]
+
+
+def lights_answer(rows):
+    told = lights(rows)
+    answer = [len(told)]
+    for number, way, cells in told:
+        answer += [number, way, *cells[0], len(cells)]
+    return answer
+
+
+def connected_to_first(whites):
+    """Grows by whole rounds until a round adds none."""
+    reached = set(whites[:1])
+    while True:
+        grown = {(r, c) for r, c in whites
+                 if reached & {(r, c), (r - 1, c), (r + 1, c), (r, c - 1), (r, c + 1)}}
+        if grown == reached:
+            return reached
+        reached = grown
+
+
+def faults(rows):
+    """Every fault as [kind, row, column], the one that is told first at the front."""
+    whites = [(r, c) for r, row in enumerate(rows) for c, sign in enumerate(row) if sign != "#"]
+    told = lights(rows)
+    within = [cell for number, way, cells in told for cell in cells]
+    turned = [row[::-1] for row in reversed(rows)]
+    found = [] if whites else [[1, 0, 0]]
+    for r, row in enumerate(rows):
+        found += [[2, r, c] for c, sign in enumerate(row) if (sign == "#") != (turned[r][c] == "#")]
+    reached = connected_to_first(whites)
+    found += [[3, *cell] for cell in whites if cell not in reached]
+    found += [[4, *cell] for cell in whites if cell not in within]
+    found += [[5, *cells[0]] for number, way, cells in told if len(cells) == 2]
+    for number, way, cells in told:
+        marks = "".join("x" if within.count(cell) == 2 else "-" for cell in cells)
+        found += [[6, *cells[k]] for k in range(len(cells)) if marks.startswith("--", k)]
+    for number, way, cells in told:
+        if sum(within.count(cell) == 2 for cell in cells) * 2 < len(cells):
+            found.append([7, *cells[0]])
+    return found
+
+
+def judge_answer(rows):
+    return (faults(rows) + [[0]])[0]
+
+
+def pattern(height, width, bits, white="."):
+    """The rows whose blocks are the ones among so many bits, row by row."""
+    signs = "".join("#" if bits >> k & 1 else white for k in range(height * width))
+    return [signs[k:k + width] for k in range(0, height * width, width)]
+
+
+def turned_alike(height, width, bits):
+    """The same, but the second half mirrors the first."""
+    size = height * width
+    half = "".join("#" if bits >> k & 1 else "." for k in range((size + 1) // 2))
+    signs = half + half[:size // 2][::-1]
+    return [signs[k:k + width] for k in range(0, size, width)]
+
+
+def spread(count, size):
+    """So many numbers below size, scattered, the same at every run."""
+    value = 1
+    for step in range(count):
+        value = (value * 6364136223846793005 + 1442695040888963407) % 2 ** 127
+        yield (value >> 20) % size
+
+
+def scattered_lattices(count):
+    """Lattices of all heights and widths, with few blocks or many, some with locked letters."""
+    draws = spread(count * 90, 2 ** 30)
+    for step in range(count):
+        height, width, share = 2 + next(draws) % 8, 2 + next(draws) % 8, next(draws) % 10
+        rows = []
+        for r in range(height):
+            signs = ["#" if next(draws) % 10 < share else ".QAZ."[next(draws) % 5 if step % 3 == 0 else 0]
+                     for c in range(width)]
+            rows.append("".join(signs))
+        yield rows
