@@ -54,3 +54,13 @@ def lights_by_cell(lights):
 
 def is_checked(by_cell, cell):
     return len(by_cell[cell]) == 2
+
+
+# Only lights of the two ways cross, so a light doesn't cross itself.
+def crossing(light, other):
+    if light.way == other.way:
+        return None
+    for place, cell in enumerate(light.cells):
+        if cell in other.cells:
+            return (place, other.cells.index(cell))
+    return None

@@ -1,4 +1,4 @@
-"""What DOC.md says of judge and lights, worked out from its words in another way than the program's."""
+"""What DOC.md says of the calls, worked out from its words in another way than the program's."""
 
 import re
 
@@ -50,6 +50,25 @@ def lights_answer(rows):
     for number, way, cells in told:
         answer += [number, way, *cells[0], len(cells)]
     return answer
+
+
+def cross_answer(rows, i, j):
+    told = lights(rows)
+    if i >= len(told) or j >= len(told):
+        return [-4]
+    both = set(told[i][2]) & set(told[j][2])
+    if i == j or not both:
+        return [0]
+    (cell,) = both
+    return [1, told[i][2].index(cell), told[j][2].index(cell)]
+
+
+def checked_answer(rows, r, c):
+    signs = {(row, column): sign for row, line in enumerate(rows) for column, sign in enumerate(line)}
+    if signs.get((r, c), "#") == "#":
+        return [-4]
+    within = [place for place, light in enumerate(lights(rows)) if (r, c) in light[2]]
+    return [len(within), *within]
 
 
 def connected_to_first(whites):

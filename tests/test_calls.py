@@ -2,10 +2,10 @@
 
 import unittest
 
-from crossfilldesk.lattices import judge, lights
+from crossfilldesk.lattices import checked, cross, judge, lights
 from tests import oracle
 
-CALLS = (judge, lights)
+MOST = 4294967295
 
 
 def changed(self, *given, **named):
@@ -30,34 +30,45 @@ def texts():
     yield [255] * 100
 
 
+def cases():
+    """Each call with what is handed in, in every kind of answer."""
+    for t in texts():
+        yield judge, (t,)
+        yield lights, (t,)
+        for one, other in ((0, 0), (0, 1), (1, 0), (1, 1), (2, 0), (MOST, 0), (0, MOST)):
+            yield cross, (one, other, t)
+            yield checked, (one, other, t)
+
+
+def copied(given, kind=list):
+    return [kind(part) if isinstance(part, list) else part for part in given]
+
+
 class Calls(unittest.TestCase):
     def test_what_is_handed_in_stays(self):
-        for t in texts():
-            for call in CALLS:
-                given = list(t)
-                call(given)
-                self.assertEqual(given, t)
-                call(Guarded(t))
+        for call, given in cases():
+            handed = copied(given)
+            call(*handed)
+            self.assertEqual(handed, list(given), call.__name__)
+            call(*copied(given, Guarded))
 
     def test_a_second_call_answers_the_same(self):
-        told = [[call(t) for call in CALLS] for t in texts()]
-        again = [[call(t) for call in CALLS] for t in texts()]
+        told = [call(*given) for call, given in cases()]
+        again = [call(*given) for call, given in cases()]
         self.assertEqual(told, again)
 
     def test_an_answer_is_the_caller_s_own(self):
-        for t in texts():
-            for call in CALLS:
-                answer = call(t)
-                kept = list(answer)
-                answer.clear()
-                self.assertEqual(call(t), kept)
+        for call, given in cases():
+            answer = call(*given)
+            kept = list(answer)
+            answer.clear()
+            self.assertEqual(call(*given), kept, (call.__name__, given))
 
     def test_answers_are_lists_of_whole_numbers(self):
-        for t in texts():
-            for call in CALLS:
-                answer = call(t)
-                self.assertIs(type(answer), list)
-                self.assertEqual({type(number) for number in answer}, {int})
+        for call, given in cases():
+            answer = call(*given)
+            self.assertIs(type(answer), list)
+            self.assertEqual({type(number) for number in answer}, {int}, (call.__name__, given))
 
 
 if __name__ == "__main__":

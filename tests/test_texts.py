@@ -1,9 +1,21 @@
-"""Texts that are no lattice's are refused by both calls, with the first fault's place."""
+"""Texts that are no lattice's are refused by each call, with the first fault's place."""
 
 import unittest
 
-from crossfilldesk.lattices import judge, lights
+from crossfilldesk.lattices import checked, cross, judge, lights
 from tests import oracle
+
+MOST = 4294967295
+
+# What else is handed in stands here: some of it would be refused too, but later.
+CALLS = {
+    "judge": judge,
+    "lights": lights,
+    "cross": lambda t: cross(0, 1, t),
+    "cross of no lights": lambda t: cross(MOST, MOST, t),
+    "checked": lambda t: checked(0, 0, t),
+    "checked of no cell": lambda t: checked(MOST, MOST, t),
+}
 
 
 def listed(text):
@@ -12,14 +24,14 @@ def listed(text):
 
 class FirstFault(unittest.TestCase):
     def refused(self, text, place):
-        for call in (judge, lights):
-            with self.subTest(call=call.__name__, text=text):
+        for name, call in CALLS.items():
+            with self.subTest(call=name, text=text):
                 self.assertEqual(call(listed(text)), [-6, place])
 
     def taken(self, text):
-        for call in (judge, lights):
-            with self.subTest(call=call.__name__, text=text):
-                self.assertGreaterEqual(call(listed(text))[0], 0)
+        for name, call in CALLS.items():
+            with self.subTest(call=name, text=text):
+                self.assertNotEqual(call(listed(text))[0], -6)
 
     def test_empty_text(self):
         self.refused("", 0)
@@ -56,9 +68,9 @@ class FirstFault(unittest.TestCase):
         for byte in range(256):
             for before in ("", "...\n.", "...\n...\n"):
                 text = listed(before) + [byte] + listed("..\n...\n")
-                for call in (judge, lights):
-                    with self.subTest(byte=byte, before=before, call=call.__name__):
-                        fault = oracle.first_fault(text)
+                fault = oracle.first_fault(text)
+                for name, call in CALLS.items():
+                    with self.subTest(byte=byte, before=before, call=name):
                         if byte not in usual:
                             self.assertEqual(fault, len(before))
                             self.assertEqual(call(text), [-6, len(before)])
@@ -125,12 +137,12 @@ class FirstFault(unittest.TestCase):
 
     def same_fault(self, t):
         fault = oracle.first_fault(t)
-        for call in (judge, lights):
+        for name, call in CALLS.items():
             answer = call(t)
             if fault is None:
-                self.assertGreaterEqual(answer[0], 0, t)
+                self.assertNotEqual(answer[0], -6, (name, t))
             else:
-                self.assertEqual(answer, [-6, fault], t)
+                self.assertEqual(answer, [-6, fault], (name, t))
 
 
 if __name__ == "__main__":
