@@ -3,25 +3,31 @@
 from crossfilldesk.cells import is_white
 from crossfilldesk.judging import judgement
 from crossfilldesk.refusals import NO_SUCH
+from crossfilldesk.refusals import TOO_FEW
 from crossfilldesk.refusals import refused_lattice
+from crossfilldesk.refusals import refused_search
+from crossfilldesk.refusals import refused_words
 from crossfilldesk.runs import crossing
 from crossfilldesk.runs import lights_by_cell
 from crossfilldesk.runs import lights_of
-from crossfilldesk.texts import rows_of
+from crossfilldesk.searching import Search
+from crossfilldesk.searching import TooFewTrials
+from crossfilldesk.slots import slots_of
+from crossfilldesk.texts import lines_of
 
 
 def judge(t):
     refusal = refused_lattice(t)
     if refusal is not None:
         return refusal
-    return judgement(rows_of(t))
+    return judgement(lines_of(t))
 
 
 def lights(t):
     refusal = refused_lattice(t)
     if refusal is not None:
         return refusal
-    found = lights_of(rows_of(t))
+    found = lights_of(lines_of(t))
     answer = [len(found)]
     for light in found:
         start = light.cells[0]
@@ -33,7 +39,7 @@ def cross(i, j, t):
     refusal = refused_lattice(t)
     if refusal is not None:
         return refusal
-    found = lights_of(rows_of(t))
+    found = lights_of(lines_of(t))
     if i >= len(found) or j >= len(found):
         return [NO_SUCH]
     places = crossing(found[i], found[j])
@@ -46,9 +52,37 @@ def checked(r, c, t):
     refusal = refused_lattice(t)
     if refusal is not None:
         return refusal
-    rows = rows_of(t)
+    rows = lines_of(t)
     if not is_white(rows, (r, c)):
         return [NO_SUCH]
     # A white cell by itself is in no light, so nothing is kept of it.
     places = lights_by_cell(lights_of(rows)).get((r, c), [])
     return [len(places)] + places
+
+
+def words(w):
+    refusal = refused_words(w)
+    if refusal is not None:
+        return refusal
+    lengths = [len(word) for word in lines_of(w)]
+    return [len(lengths)] + lengths
+
+
+def search_of(n, t, w):
+    return Search(slots_of(lines_of(t)), lines_of(w), n)
+
+
+def told_filling(filling):
+    if filling is None:
+        return [0]
+    return [1] + filling
+
+
+def first(n, t, w):
+    refusal = refused_search(n, t, w)
+    if refusal is not None:
+        return refusal
+    try:
+        return told_filling(search_of(n, t, w).following())
+    except TooFewTrials:
+        return [TOO_FEW]

@@ -1,4 +1,4 @@
-"""The text of a lattice: its first fault, and the rows it tells."""
+"""Texts, made of lines with a byte behind each: the first fault of a lattice's, and the lines of any."""
 
 LINE_END = 10
 BLOCK = 35
@@ -9,8 +9,12 @@ LEAST_SIDE = 2
 MOST_SIDE = 9
 
 
+def is_letter(byte):
+    return LETTER_A <= byte <= LETTER_Z
+
+
 def is_cell(byte):
-    return byte == BLOCK or byte == WHITE or LETTER_A <= byte <= LETTER_Z
+    return byte == BLOCK or byte == WHITE or is_letter(byte)
 
 
 # least and most are the cells that the row may have: they differ in the first row alone,
@@ -44,13 +48,14 @@ def first_fault(t):
     return None
 
 
-def rows_of(t):
-    rows = []
-    row = []
-    for byte in t:
+# Only for texts without a fault: what stands behind the last line end is left out.
+def lines_of(text):
+    lines = []
+    line = []
+    for byte in text:
         if byte == LINE_END:
-            rows.append(row)
-            row = []
+            lines.append(line)
+            line = []
         else:
-            row.append(byte)
-    return rows
+            line.append(byte)
+    return lines

@@ -108,6 +108,51 @@ def judge_answer(rows):
     return (faults(rows) + [[0]])[0]
 
 
+def words_go_on(text):
+    return (re.fullmatch("([A-Z]{2,9}\n){0,200}", text) or
+            re.fullmatch("([A-Z]{2,9}\n){0,199}[A-Z]{1,9}", text)) is not None
+
+
+def words_fault(w):
+    """None if there is none, else how much of the text can still go on, less the byte that can't."""
+    text = "".join(chr(byte) for byte in w)
+    if re.fullmatch("([A-Z]{2,9}\n){0,200}", text):
+        return None
+    return max(size for size in range(len(text) + 1) if words_go_on(text[:size]))
+
+
+def stands(rows, words, numbers):
+    """Whether these words may stand in the first so many lights: each cell is given one letter by all that have it."""
+    letters = {(r, c): sign for r, row in enumerate(rows) for c, sign in enumerate(row) if sign.isupper()}
+    for (number, way, cells), word in zip(lights(rows), [words[k] for k in numbers]):
+        if len(word) != len(cells) or any(letters.setdefault(cell, sign) != sign for cell, sign in zip(cells, word)):
+            return False
+    return len(set(numbers)) == len(numbers)
+
+
+def beginnings(rows, words, most=None):
+    """All beginnings of fillings: of no lights, of one, of two, ..; the last are the fillings. None if there are
+    more than most of one size."""
+    sizes = [[()]]
+    for light in lights(rows):
+        sizes.append([begun + (k,) for begun in sizes[-1] for k in range(len(words))
+                      if stands(rows, words, begun + (k,))])
+        if most is not None and len(sizes[-1]) > most:
+            return None
+    return sizes
+
+
+def all_trials(sizes, words):
+    """Behind each beginning that is no filling, each word is tried."""
+    return sum(len(size) for size in sizes[:-1]) * len(words)
+
+
+def trials_up_to(sizes, words, filling):
+    """As all_trials, but only those that are made before the filling's last word, and that one: a trial comes
+    before another just if the numbers it makes do, in the order of words in a lexicon."""
+    return sum(begun + (k,) <= filling for size in sizes[:-1] for begun in size for k in range(len(words)))
+
+
 def pattern(height, width, bits, white="."):
     """The rows whose blocks are the ones among so many bits, row by row."""
     signs = "".join("#" if bits >> k & 1 else white for k in range(height * width))
@@ -141,3 +186,19 @@ def scattered_lattices(count):
                      for c in range(width)]
             rows.append("".join(signs))
         yield rows
+
+
+def scattered_fillings(count):
+    """Small lattices and few words in few letters: rows, words, and all beginnings of fillings."""
+    draws = spread(count * 1000, 2 ** 30)
+    while count > 0:
+        height, width, share = 2 + next(draws) % 3, 2 + next(draws) % 3, next(draws) % 6
+        rows = ["".join("#" if next(draws) % 10 < share else "......AB"[next(draws) % 8] for c in range(width))
+                for r in range(height)]
+        lengths = sorted({len(cells) for number, way, cells in lights(rows)}) + [2 + next(draws) % 3]
+        words = ["".join("AABC"[next(draws) % (3 + share % 2)] for k in range(lengths[next(draws) % len(lengths)]))
+                 for word in range(next(draws) % 14)]
+        sizes = beginnings(rows, words, 400)
+        if sizes is not None:
+            yield rows, words, sizes
+            count -= 1

@@ -2,7 +2,7 @@
 
 import unittest
 
-from crossfilldesk.lattices import checked, cross, judge, lights
+from crossfilldesk.lattices import checked, cross, first, judge, lights, words
 from tests import oracle
 
 MOST = 4294967295
@@ -30,6 +30,13 @@ def texts():
     yield [255] * 100
 
 
+def word_texts():
+    for told in ([], ["AB", "BA", "CAB"], ["AA"] * 4, ["AAA", "AAA"], ["A" * 9] * 200, ["ABC", "D"]):
+        yield oracle.bytes_of(*told)
+    yield [65, 66]
+    yield [0] * 2100
+
+
 def cases():
     """Each call with what is handed in, in every kind of answer."""
     for t in texts():
@@ -38,6 +45,11 @@ def cases():
         for one, other in ((0, 0), (0, 1), (1, 0), (1, 1), (2, 0), (MOST, 0), (0, MOST)):
             yield cross, (one, other, t)
             yield checked, (one, other, t)
+        for w in word_texts():
+            for n in (0, 1, 1000, 100001, MOST):
+                yield first, (n, t, w)
+    for w in word_texts():
+        yield words, (w,)
 
 
 def copied(given, kind=list):

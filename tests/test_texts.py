@@ -2,7 +2,7 @@
 
 import unittest
 
-from crossfilldesk.lattices import checked, cross, judge, lights
+from crossfilldesk.lattices import checked, cross, first, judge, lights
 from tests import oracle
 
 MOST = 4294967295
@@ -15,6 +15,8 @@ CALLS = {
     "cross of no lights": lambda t: cross(MOST, MOST, t),
     "checked": lambda t: checked(0, 0, t),
     "checked of no cell": lambda t: checked(MOST, MOST, t),
+    "first": lambda t: first(100, t, [65, 65, 10]),
+    "first of no words, with no trials": lambda t: first(0, t, [0]),
 }
 
 
