@@ -4,6 +4,7 @@ from crossfilldesk.cells import is_white
 from crossfilldesk.judging import judgement
 from crossfilldesk.refusals import NO_SUCH
 from crossfilldesk.refusals import TOO_FEW
+from crossfilldesk.refusals import refused_count
 from crossfilldesk.refusals import refused_lattice
 from crossfilldesk.refusals import refused_search
 from crossfilldesk.refusals import refused_words
@@ -12,6 +13,8 @@ from crossfilldesk.runs import lights_by_cell
 from crossfilldesk.runs import lights_of
 from crossfilldesk.searching import Search
 from crossfilldesk.searching import TooFewTrials
+from crossfilldesk.searching import first_behind
+from crossfilldesk.searching import how_many
 from crossfilldesk.slots import slots_of
 from crossfilldesk.texts import lines_of
 
@@ -84,5 +87,28 @@ def first(n, t, w):
         return refusal
     try:
         return told_filling(search_of(n, t, w).following())
+    except TooFewTrials:
+        return [TOO_FEW]
+
+
+def next_of(n, t, w, a):
+    refusal = refused_search(n, t, w)
+    if refusal is not None:
+        return refusal
+    search = search_of(n, t, w)
+    if len(a) != len(search.slots):
+        return [NO_SUCH]
+    try:
+        return told_filling(first_behind(search, a))
+    except TooFewTrials:
+        return [TOO_FEW]
+
+
+def count(n, m, t, w):
+    refusal = refused_count(n, m, t, w)
+    if refusal is not None:
+        return refusal
+    try:
+        return [how_many(search_of(n, t, w), m)]
     except TooFewTrials:
         return [TOO_FEW]

@@ -10,6 +10,7 @@ NO_SUCH = -4
 TOO_FEW = -7
 
 MOST_TRIALS = 100000
+MOST_COUNTED = 1000
 
 
 def refused_lattice(t):
@@ -38,5 +39,14 @@ def refused_search(n, t, w):
     if refusal is not None:
         return refusal
     if n == 0 or n > MOST_TRIALS:
+        return [OUT_OF_RANGE]
+    return None
+
+
+def refused_count(n, m, t, w):
+    refusal = refused_search(n, t, w)
+    if refusal is not None:
+        return refusal
+    if m == 0 or m > MOST_COUNTED:
         return [OUT_OF_RANGE]
     return None

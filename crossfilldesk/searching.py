@@ -47,3 +47,25 @@ class Search:
             self.number = 0
         else:
             self.number = self.number + 1
+
+
+def is_behind(filling, numbers):
+    for number, other in zip(filling, numbers):
+        if number != other:
+            return number > other
+    return False
+
+
+def first_behind(search, numbers):
+    filling = search.following()
+    while filling is not None and not is_behind(filling, numbers):
+        filling = search.following()
+    return filling
+
+
+# It stops at the last one that is counted: whether there are more would change nothing, but cost trials.
+def how_many(search, most):
+    found = 0
+    while found < most and search.following() is not None:
+        found = found + 1
+    return found

@@ -2,7 +2,7 @@
 
 import unittest
 
-from crossfilldesk.lattices import checked, cross, first, judge, lights, words
+from crossfilldesk.lattices import checked, count, cross, first, judge, lights, next_of, words
 from tests import oracle
 
 MOST = 4294967295
@@ -37,6 +37,10 @@ def word_texts():
     yield [0] * 2100
 
 
+def number_lists():
+    yield from ([], [0], [1, 0], [0, 1, 2, 3], [0, 0, 0, 0], [MOST] * 4, list(range(18)), [0] * 200)
+
+
 def cases():
     """Each call with what is handed in, in every kind of answer."""
     for t in texts():
@@ -48,6 +52,10 @@ def cases():
         for w in word_texts():
             for n in (0, 1, 1000, 100001, MOST):
                 yield first, (n, t, w)
+                for m in (0, 1, 1000, 1001, MOST):
+                    yield count, (n, m, t, w)
+                for a in number_lists():
+                    yield next_of, (n, t, w, a)
     for w in word_texts():
         yield words, (w,)
 

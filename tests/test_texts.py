@@ -2,7 +2,7 @@
 
 import unittest
 
-from crossfilldesk.lattices import checked, cross, first, judge, lights
+from crossfilldesk.lattices import checked, count, cross, first, judge, lights, next_of
 from tests import oracle
 
 MOST = 4294967295
@@ -17,6 +17,10 @@ CALLS = {
     "checked of no cell": lambda t: checked(MOST, MOST, t),
     "first": lambda t: first(100, t, [65, 65, 10]),
     "first of no words, with no trials": lambda t: first(0, t, [0]),
+    "next_of": lambda t: next_of(100, t, [65, 65, 10], [0]),
+    "next_of of no words, with no trials": lambda t: next_of(0, t, [0], []),
+    "count": lambda t: count(100, 10, t, [65, 65, 10]),
+    "count of no words, with no trials": lambda t: count(0, 0, t, [0]),
 }
 
 

@@ -2,7 +2,7 @@
 
 import unittest
 
-from crossfilldesk.lattices import first, words
+from crossfilldesk.lattices import count, first, next_of, words
 from tests import oracle
 
 MOST = 4294967295
@@ -15,6 +15,12 @@ CALLS = {
     "first with no trials": lambda w: first(0, LATTICE, w),
     "first with too many trials": lambda w: first(MOST, LATTICE, w),
     "first with too few trials": lambda w: first(1, LATTICE, w),
+    "next_of": lambda w: next_of(100000, LATTICE, w, [0, 0, 0, 0]),
+    "next_of with no trials": lambda w: next_of(0, LATTICE, w, [0, 0, 0, 0]),
+    "next_of with too few numbers": lambda w: next_of(1, LATTICE, w, []),
+    "count": lambda w: count(100000, 10, LATTICE, w),
+    "count with no trials": lambda w: count(0, 10, LATTICE, w),
+    "count up to none": lambda w: count(1, 0, LATTICE, w),
 }
 
 
