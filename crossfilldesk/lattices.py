@@ -1,12 +1,15 @@
 """The calls: each takes lists of bytes and numbers, and gives its answer as one list of numbers."""
 
 from crossfilldesk.cells import is_white
+from crossfilldesk.fillings import first_wrong
+from crossfilldesk.fillings import lettered
 from crossfilldesk.judging import judgement
 from crossfilldesk.refusals import NO_SUCH
 from crossfilldesk.refusals import TOO_FEW
 from crossfilldesk.refusals import refused_count
 from crossfilldesk.refusals import refused_lattice
 from crossfilldesk.refusals import refused_search
+from crossfilldesk.refusals import refused_texts
 from crossfilldesk.refusals import refused_words
 from crossfilldesk.runs import crossing
 from crossfilldesk.runs import lights_by_cell
@@ -112,3 +115,25 @@ def count(n, m, t, w):
         return [how_many(search_of(n, t, w), m)]
     except TooFewTrials:
         return [TOO_FEW]
+
+
+def fits(t, w, f):
+    refusal = refused_texts(t, w)
+    if refusal is not None:
+        return refusal
+    wrong = first_wrong(slots_of(lines_of(t)), lines_of(w), f)
+    if wrong is None:
+        return [1]
+    return [0] + wrong
+
+
+def letters(t, w, f):
+    refusal = refused_texts(t, w)
+    if refusal is not None:
+        return refusal
+    slots = slots_of(lines_of(t))
+    listed = lines_of(w)
+    if first_wrong(slots, listed, f) is not None:
+        return [NO_SUCH]
+    text = lettered(t, slots, listed, f)
+    return [len(text)] + text

@@ -1,5 +1,6 @@
 """What DOC.md says of the calls, worked out from its words in another way than the program's."""
 
+import functools
 import re
 
 CELL = re.compile("[#.A-Z]*")
@@ -188,10 +189,12 @@ def scattered_lattices(count):
         yield rows
 
 
-def scattered_fillings(count):
-    """Small lattices and few words in few letters: rows, words, and all beginnings of fillings."""
-    draws = spread(count * 1000, 2 ** 30)
-    while count > 0:
+@functools.cache
+def all_scattered_fillings():
+    """Kept, as many tests go through them."""
+    draws = spread(1000000, 2 ** 30)
+    found = []
+    while len(found) < 1500:
         height, width, share = 2 + next(draws) % 3, 2 + next(draws) % 3, next(draws) % 6
         rows = ["".join("#" if next(draws) % 10 < share else "......AB"[next(draws) % 8] for c in range(width))
                 for r in range(height)]
@@ -200,5 +203,48 @@ def scattered_fillings(count):
                  for word in range(next(draws) % 14)]
         sizes = beginnings(rows, words, 400)
         if sizes is not None:
-            yield rows, words, sizes
-            count -= 1
+            found.append((rows, words, sizes))
+    return found
+
+
+def scattered_fillings(count):
+    """Small lattices and few words in few letters: rows, words, and all beginnings of fillings."""
+    return all_scattered_fillings()[:count]
+
+
+def fits_answer(rows, words, f):
+    """Everything that is wrong is put down as (light, kind), and the least is told."""
+    told = lights(rows)
+    if len(f) != len(told):
+        return [0, 1, len(f)]
+    wrong = []
+    for place, ((number, way, cells), k) in enumerate(zip(told, f)):
+        if k >= len(words):
+            wrong.append((place, 2))
+            continue
+        signs = [rows[r][c] for r, c in cells]
+        if not re.fullmatch("".join("." if sign == "." else sign for sign in signs), words[k]):
+            wrong.append((place, 3))
+        if f.index(k) < place:
+            wrong.append((place, 4))
+        for other, (cells_there, there) in enumerate(zip([light[2] for light in told[:place]], f)):
+            for cell in set(cells) & set(cells_there):
+                mine, theirs = cells.index(cell), cells_there.index(cell)
+                # Where the earlier word is too short, something is wrong there already, and that is told.
+                if there < len(words) and words[k][mine:mine + 1] != words[there][theirs:theirs + 1]:
+                    wrong.append((place, 5))
+    if not wrong:
+        return [1]
+    place, kind = min(wrong)
+    return [0, kind, place]
+
+
+def letters_answer(rows, words, f):
+    if fits_answer(rows, words, f) != [1]:
+        return [-4]
+    signs = [list(row) for row in rows]
+    for (number, way, cells), k in reversed(list(zip(lights(rows), f))):
+        for (r, c), sign in zip(cells, words[k]):
+            signs[r][c] = sign
+    text = bytes_of(*["".join(row) for row in signs])
+    return [len(text), *text]

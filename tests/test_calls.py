@@ -1,8 +1,10 @@
 """What holds of every call: it keeps nothing, changes nothing, and gives back a list of whole numbers."""
 
+import inspect
 import unittest
 
-from crossfilldesk.lattices import checked, count, cross, first, judge, lights, next_of, words
+from crossfilldesk import lattices
+from crossfilldesk.lattices import checked, count, cross, first, fits, judge, letters, lights, next_of, words
 from tests import oracle
 
 MOST = 4294967295
@@ -56,6 +58,9 @@ def cases():
                     yield count, (n, m, t, w)
                 for a in number_lists():
                     yield next_of, (n, t, w, a)
+            for f in number_lists():
+                yield fits, (t, w, f)
+                yield letters, (t, w, f)
     for w in word_texts():
         yield words, (w,)
 
@@ -65,6 +70,13 @@ def copied(given, kind=list):
 
 
 class Calls(unittest.TestCase):
+    def test_names_and_arguments(self):
+        for name, arguments in (("judge", "t"), ("lights", "t"), ("cross", "i j t"), ("checked", "r c t"),
+                                ("words", "w"), ("first", "n t w"), ("next_of", "n t w a"), ("count", "n m t w"),
+                                ("fits", "t w f"), ("letters", "t w f")):
+            call = getattr(lattices, name)
+            self.assertEqual(list(inspect.signature(call).parameters), arguments.split(), name)
+
     def test_what_is_handed_in_stays(self):
         for call, given in cases():
             handed = copied(given)

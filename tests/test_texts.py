@@ -2,7 +2,7 @@
 
 import unittest
 
-from crossfilldesk.lattices import checked, count, cross, first, judge, lights, next_of
+from crossfilldesk.lattices import checked, count, cross, first, fits, judge, letters, lights, next_of
 from tests import oracle
 
 MOST = 4294967295
@@ -21,6 +21,10 @@ CALLS = {
     "next_of of no words, with no trials": lambda t: next_of(0, t, [0], []),
     "count": lambda t: count(100, 10, t, [65, 65, 10]),
     "count of no words, with no trials": lambda t: count(0, 0, t, [0]),
+    "fits": lambda t: fits(t, [65, 65, 10], [0]),
+    "fits of no words": lambda t: fits(t, [0], [MOST]),
+    "letters": lambda t: letters(t, [65, 65, 10], [0]),
+    "letters of no words": lambda t: letters(t, [0], [MOST]),
 }
 
 

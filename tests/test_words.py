@@ -2,7 +2,7 @@
 
 import unittest
 
-from crossfilldesk.lattices import count, first, next_of, words
+from crossfilldesk.lattices import count, first, fits, letters, next_of, words
 from tests import oracle
 
 MOST = 4294967295
@@ -21,6 +21,10 @@ CALLS = {
     "count": lambda w: count(100000, 10, LATTICE, w),
     "count with no trials": lambda w: count(0, 10, LATTICE, w),
     "count up to none": lambda w: count(1, 0, LATTICE, w),
+    "fits": lambda w: fits(LATTICE, w, [0, 0, 0, 0]),
+    "fits with too few numbers": lambda w: fits(LATTICE, w, []),
+    "letters": lambda w: letters(LATTICE, w, [0, 1, 2, 3]),
+    "letters with too few numbers": lambda w: letters(LATTICE, w, []),
 }
 
 
